@@ -1,0 +1,1 @@
+"""Fewestpours: records on slow disks, and the least moves of any program."""

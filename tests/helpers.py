@@ -1,0 +1,157 @@
+"""What the tests share: drawn standings, wishes and pours, and values that are wrong in some way."""
+
+import itertools
+import random
+
+WRONG_VALUES = (
+    None, True, False, -1, 0, 1, 7, 1.5, 2.0, "", "a", "0", b"", b"ab", [], [0], {}, {0: 1}, set(), frozenset(), object(),
+    (), (0,), (None,), (True,), ((),), ((), ()), (((),),), ("a", "b"), (1, 2, 3), ((1, 2), (3, 4)), range(3), len, int,
+    (0, ()), (1, ()), (2, [()]), [2, ((),)], ((0,), (1,)), float("nan"), 10 ** 3999, -(10 ** 3999), (10 ** 3999,),
+)
+
+
+def nested(deep):
+    """A tuple in a tuple, and so on."""
+    value = ()
+    for _ in range(deep):
+        value = (value,)
+    return value
+
+
+def broken(value):
+    """The value with one of its parts turned into something of another kind, again and again another one."""
+    if isinstance(value, tuple):
+        yield list(value)
+        yield None
+        yield len(value)
+        yield "x" * len(value)
+        for at, part in enumerate(value):
+            for wrong in broken(part):
+                yield value[:at] + (wrong,) + value[at + 1:]
+    elif isinstance(value, str):
+        yield from (None, 0, value + "x", "", value.encode(), (value,), [value])
+    elif value is None:
+        yield from (True, -1, "None", [], "")
+    else:
+        yield from (bool(value), -1 - value, float(value), str(value), None, [value], (value,))
+
+
+def all_in_tuples(value):
+    """Whether a value is made of tuples, integers, strings and None alone."""
+    if isinstance(value, tuple):
+        return type(value) is tuple and all(all_in_tuples(part) for part in value)
+    return value is None or type(value) in (int, str, bool)
+
+
+def split(rng, records, b, many):
+    """Records shared out at random among so many blocks."""
+    while True:
+        blocks = [[] for _ in range(many)]
+        for record in rng.sample(list(records), len(records)):
+            free = [block for block in blocks if len(block) < b]
+            rng.choice(free).append(record)
+        return tuple(tuple(sorted(block)) for block in blocks)
+
+
+def drawn_standing(rng, b=None, many=None, records=None):
+    """Some standing."""
+    b = b or rng.randint(1, 4)
+    many = many or rng.randint(1, 5)
+    if records is None:
+        records = rng.randint(0, b * many)
+    return b, split(rng, range(records), b, many)
+
+
+def drawn_wish(rng, standing):
+    """Some wish of a standing."""
+    b, blocks = standing
+    records = sum(map(len, blocks))
+    places = [at for at in range(len(blocks)) for _ in range(b)]
+    return tuple(rng.sample(places, records))
+
+
+def drawn_pour(rng, standing, m):
+    """Some pour of a standing with two blocks or more."""
+    b, blocks = standing
+    who = tuple(sorted(rng.sample(range(len(blocks)), rng.randint(2, min(m, len(blocks))))))
+    return who, split(rng, [record for at in who for record in blocks[at]], b, len(who))
+
+
+def plainly_poured(standing, pour):
+    """The standing behind a pour."""
+    b, blocks = standing
+    held = dict(enumerate(blocks))
+    held.update(zip(*pour))
+    return b, tuple(held[at] for at in range(len(blocks)))
+
+
+def drawn_row(rng, standing, m, many):
+    """A pair: some row of so many pours, none if there is one block alone, and the standing behind it."""
+    row = []
+    if len(standing[1]) > 1:
+        for _ in range(many):
+            row.append(drawn_pour(rng, standing, m))
+            standing = plainly_poured(standing, row[-1])
+    return tuple(row), standing
+
+
+def drawn_errand(rng, many=3, **kinds):
+    """Some errand."""
+    standing = drawn_standing(rng, **kinds)
+    m = rng.randint(2, 4)
+    row, last = drawn_row(rng, standing, m, rng.randint(0, many))
+    wish = [0] * sum(map(len, last[1]))
+    for at, block in enumerate(last[1]):
+        for record in block:
+            wish[record] = at
+    return m, standing, tuple(wish), row
+
+
+def all_partings(pool, b, many):
+    """All ways to share out a pool among so many blocks, ascending within each."""
+    if many == 0:
+        if not pool:
+            yield ()
+        return
+    for size in range(min(b, len(pool)) + 1):
+        for block in itertools.combinations(pool, size):
+            rest = tuple(record for record in pool if record not in block)
+            for others in all_partings(rest, b, many - 1):
+                yield (block,) + others
+
+
+def all_pours(standing, m):
+    """All pours of at most m blocks of a small standing."""
+    b, blocks = standing
+    for size in range(2, min(m, len(blocks)) + 1):
+        for who in itertools.combinations(range(len(blocks)), size):
+            pool = tuple(sorted(record for at in who for record in blocks[at]))
+            for parts in all_partings(pool, b, size):
+                yield who, parts
+
+
+def distances(standing, m):
+    """For each standing that can be reached the least number of pours that lead there."""
+    found = {standing: 0}
+    round_ = [standing]
+    while round_:
+        later = []
+        for one in round_:
+            for pour in all_pours(one, m):
+                other = plainly_poured(one, pour)
+                if other not in found:
+                    found[other] = found[one] + 1
+                    later.append(other)
+        round_ = later
+    return found
+
+
+def plain_wish(standing):
+    """The wish of each record to lie where it lies in this standing."""
+    where = {record: at for at, block in enumerate(standing[1]) for record in block}
+    return tuple(where[record] for record in range(len(where)))
+
+
+def rng_of(seed):
+    """A source of random numbers that begins anew with each test."""
+    return random.Random(seed)

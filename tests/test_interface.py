@@ -1,0 +1,73 @@
+"""The names of the interface: each in its file, with arguments by these names; and the errors."""
+
+import importlib
+import inspect
+import unittest
+
+INTERFACE = """
+standings: is_standing(value), record_count(standing), block_of(standing, record), standing_of(b, blocks)
+standings: is_wish(standing, value), crowds(standing, wish), is_met(standing, wish), wish_of(standing, other)
+standings: renamed_blocks(standing, names), renamed_wish(wish, names), alike_records(standing, wish, one, other)
+standings: exchanged(standing, one, other)
+pours: is_pour(standing, m, value), poured(standing, m, value), behind(standing, m, row)
+pours: meets(standing, wish, m, row), back(standing, m, row)
+tokens: tokens_of(text), token_places(text)
+errands: is_errand(value), renamed_errand(errand, names), relabelled_errand(errand, names), turned_errand(errand)
+errands: joined_errand(errand, other)
+errandtexts: errand_tokens(errand), errand_text(errand)
+reading: read_errand(text), may_follow(text), completed(text)
+diskcode: is_program(value), reads_in(program), moves_in(program)
+diskmachine: first_state(standing, m), is_state(value), done_once(state, instruction), run(standing, m, program)
+diskmachine: is_idle(state)
+asrows: held_standing(state), row_of(standing, m, program), program_of(standing, m, row)
+powers: power(x), psi(table)
+depths: least_depths(x, m), depth_potential(table, m)
+depthtrees: is_tree(m, value), end_count(tree), depth_sum(tree), best_tree(x, m), parted(tree, marks, many)
+partings: is_best_parting(m, value), best_parting(x, m)
+gains: poured_count(standing, pour), depth_gain(standing, wish, m, pour), psi_pair(standing, wish, m, pour)
+gains: is_full(standing, wish, m, pour)
+below: measured(standing, wish, m, measure), bound_by(standing, wish, m, measure), pours_needed(standing, wish, m)
+belowpapers: paper_below(standing, wish, m), is_paper_below(standing, wish, m, value)
+running: running(standing, wish, m, row), waste(standing, wish, m, row), is_surely_least(standing, wish, m, value)
+readbounds: read_measure(state, wish), reads_needed(standing, wish, m), is_reads_paper(standing, wish, m, value)
+turned: table_standing(b, rows, columns), turned_wish(b, rows, columns), turned_order(i, j)
+"""
+WITH_AT = "InvalidStanding InvalidText InvalidRow InvalidPaper InvalidQuestion Refused".split()
+
+
+class InterfaceTest(unittest.TestCase):
+    def test_functions(self):
+        count = 0
+        for line in INTERFACE.strip().split("\n"):
+            file, told = line.split(": ")
+            module = importlib.import_module("fewestpours." + file)
+            for call in told.replace("), ", ")|").split("|"):
+                name, arguments = call[:-1].split("(")
+                function = vars(module)[name]
+                self.assertTrue(inspect.isfunction(function), call)
+                self.assertEqual(function.__module__, module.__name__, call)
+                self.assertEqual(", ".join(inspect.signature(function).parameters), arguments)
+                count += 1
+        self.assertEqual(count, 69)
+
+    def test_measures(self):
+        below = importlib.import_module("fewestpours.below")
+        self.assertEqual(below.MEASURES, ("powers", "depths", "powers back", "depths back"))
+
+    def test_errors(self):
+        errors = importlib.import_module("fewestpours.errors")
+        self.assertEqual(errors.PourError.__bases__, (ValueError,))
+        for name in WITH_AT + ["InvalidCommand"]:
+            self.assertEqual(vars(errors)[name].__bases__, (errors.PourError,))
+        for name in WITH_AT:
+            for at in (0, 5, None, "word", (1, 2), [3], 10 ** 5000):
+                kept = vars(errors)[name](at)
+                self.assertIs(kept.at, at)
+                self.assertIs(vars(errors)[name](at=at).at, at)
+                self.assertFalse(kept == at)
+                self.assertIsInstance(str(kept), str)
+        self.assertIsInstance(errors.InvalidCommand(), errors.PourError)
+
+
+if __name__ == "__main__":
+    unittest.main()
