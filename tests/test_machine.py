@@ -204,6 +204,15 @@ class RowsTest(unittest.TestCase):
         state = (2, (None, (1,), None), (None, (3, 2), (None, 0)))
         self.assertEqual(held_standing(state), (2, ((2, 3), (1,), (0,))))
         self.assertEqual(held_standing((1, ((0,), ()), (None, None))), (1, ((0,), ())))
+        state = (1, (None, (4,), None, None, None), ((3,), None, (0,), (None,), None, (1,)))
+        self.assertEqual(held_standing(state), (1, ((3,), (4,), (0,), (), (1,))))
+        rng = rng_of(6)
+        for _ in range(50):
+            _, states = drawn_program(rng, drawn_standing(rng, many=5), 5, 30)
+            for b, blocks, rooms in states:
+                shown = [tuple(sorted(set(room) - {None})) for room in rooms if room is not None][::-1]
+                held = tuple(shown.pop() if block is None else block for block in blocks)
+                self.assertEqual(held_standing((b, blocks, rooms)), (b, held))
 
     def test_programs_are_rows(self):
         rng = rng_of(3)

@@ -212,6 +212,8 @@ class PartingsTest(unittest.TestCase):
         for value in WRONG_VALUES + (nested(2000), (nested(40), 1)):
             self.assertIs(is_best_parting(2, value), False, value)
             self.assertIs(is_best_parting(2, (1, value)), type(value) is int and value == 1, value)
+        for value in ((0, 1, 1), (1, 1, 0), (0, 0), (0, 0, 0), (0, 3), (True, 1, 1)):
+            self.assertIs(is_best_parting(3, value), False, value)
         self.assertIs(is_best_parting(16, (1,) * 16), True)
         self.assertIs(is_best_parting(16, (1,) * 17), False)
         self.assertIs(is_best_parting(2, (10 ** 3999, 10 ** 3999)), True)

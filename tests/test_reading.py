@@ -263,6 +263,10 @@ class LimitsTest(unittest.TestCase):
         text = "rooms 2; size 1; " + blocks
         self.assertEqual(may_follow(text), ("wish",))
         self.assertEqual(read_errand(text + "wish:; done")[1], (1, ((),) * 64))
+        self.assertEqual(completed(text)[1], (1, ((),) * 64))
+        full = "rooms 2; size 1; " + "".join(f"block {at}: {63 - at};" for at in range(64))
+        self.assertEqual(completed(full)[1], (1, tuple((63 - at,) for at in range(64))))
+        self.assertEqual(completed(full[:-len("block 63: 0;")])[1], completed(full)[1])
         with self.assertRaises(InvalidText) as caught:
             read_errand(text + "block 64: ; wish: ; done")
         self.assertEqual(caught.exception.at, 6 + 4 * 64)
