@@ -7,9 +7,14 @@ LEAST_ROOMS = 2
 MOST_ROOMS = 16
 
 
+def is_whole(value):
+    """Whether any value is an integer, and neither True nor False."""
+    return isinstance(value, int) and not isinstance(value, bool)
+
+
 def is_number(value):
-    """Whether any value is a number: an integer from 0 on, and neither True nor False."""
-    return isinstance(value, int) and not isinstance(value, bool) and value >= 0
+    """Whether any value is a number: an integer from 0 on."""
+    return is_whole(value) and value >= 0
 
 
 def is_between(value, least, most):

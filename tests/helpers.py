@@ -1,5 +1,6 @@
 """What the tests share: drawn standings, wishes and pours, and values that are wrong in some way."""
 
+import functools
 import itertools
 import random
 
@@ -120,36 +121,84 @@ def all_partings(pool, b, many):
                 yield (block,) + others
 
 
+@functools.lru_cache(maxsize=4096)
+def known_partings(pool, b, many):
+    """The same as a tuple, kept for the next time."""
+    return tuple(all_partings(pool, b, many))
+
+
 def all_pours(standing, m):
     """All pours of at most m blocks of a small standing."""
     b, blocks = standing
     for size in range(2, min(m, len(blocks)) + 1):
         for who in itertools.combinations(range(len(blocks)), size):
             pool = tuple(sorted(record for at in who for record in blocks[at]))
-            for parts in all_partings(pool, b, size):
+            for parts in known_partings(pool, b, size):
                 yield who, parts
+
+
+def played(standing, m, row):
+    """The standing behind a row, played pour by pour; it fails if one is no pour of at most m blocks."""
+    b, blocks = standing
+    held = dict(enumerate(blocks))
+    if type(row) is not tuple:
+        raise AssertionError(row)
+    for pour in row:
+        who, parts = pour
+        records = sorted(record for at in who for record in held[at])
+        well = type(pour) is tuple and type(who) is tuple and type(parts) is tuple
+        well = well and 2 <= len(who) <= m and list(who) == sorted(set(who)) and len(parts) == len(who)
+        well = well and all(type(part) is tuple and list(part) == sorted(part) and len(part) <= b for part in parts)
+        if not well or sorted(record for part in parts for record in part) != records or not all_in_tuples(pour):
+            raise AssertionError(pour)
+        held.update(zip(who, parts))
+    return b, tuple(held[at] for at in range(len(blocks)))
+
+
+def rings_of(names):
+    """The sizes of the rings of names."""
+    left, sizes = set(range(len(names))), []
+    while left:
+        at, size = min(left), 0
+        while at in left:
+            left.remove(at)
+            at, size = names[at], size + 1
+        sizes.append(size)
+    return sizes
 
 
 def distances(standing, m):
     """For each standing that can be reached the least number of pours that lead there."""
-    found = {standing: 0}
-    round_ = [standing]
-    while round_:
-        later = []
-        for one in round_:
-            for pour in all_pours(one, m):
-                other = plainly_poured(one, pour)
-                if other not in found:
-                    found[other] = found[one] + 1
-                    later.append(other)
-        round_ = later
-    return found
+    b, blocks = standing
+    found = {blocks: 0}
+    waiting = [blocks]
+    for held in waiting:
+        for who, parts in all_pours((b, held), m):
+            other = list(held)
+            for at, part in zip(who, parts):
+                other[at] = part
+            other = tuple(other)
+            if other not in found:
+                found[other] = found[held] + 1
+                waiting.append(other)
+    return {(b, held): count for held, count in found.items()}
 
 
 def plain_wish(standing):
     """The wish of each record to lie where it lies in this standing."""
     where = {record: at for at, block in enumerate(standing[1]) for record in block}
     return tuple(where[record] for record in range(len(where)))
+
+
+def drawn_asks(rng, many):
+    """Some asks, of few pages or of many."""
+    pages = rng.randint(1, 5)
+    return tuple(rng.randrange(pages) for _ in range(many))
+
+
+def all_lots(things):
+    """All tuples of some of these things, in their order."""
+    return itertools.chain.from_iterable(itertools.combinations(things, many) for many in range(len(things) + 1))
 
 
 def rng_of(seed):

@@ -2,7 +2,11 @@
 
 import ast
 import builtins
+import io
+import itertools
 import os
+import re
+import tokenize
 import unittest
 
 ROOT = os.path.dirname(os.path.dirname(os.path.abspath(__file__)))
@@ -22,6 +26,11 @@ UNUSED = """register mro elements open input law version_info attrgetter breakpo
 delattr dir eval exec exit gc globals help id importlib license locals methodcaller os quit super type vars sys""".split()
 AT_ONCE = "list tuple dict sorted sum any all enumerate zip min max len reversed".split()
 SPANS = "range zip enumerate reversed".split()
+LIBRARY = {"heapq": "heappush heappop heapify heapreplace heappushpop", "math": "gcd lcm isqrt comb perm factorial",
+           "itertools": "product combinations permutations"}
+CHANGING = "append clear extend insert pop remove reverse setdefault update sort add discard".split()
+BARRED = """type typing enum Enum IntEnum StrEnum Flag IntFlag Generic Protocol ABC ABCMeta namedtuple NamedTuple TypedDict
+abstractmethod dataclass overload contextmanager register mro elements open input law""".split()
 
 
 def files():
@@ -131,6 +140,9 @@ class FormTest(unittest.TestCase):
                 self.assertNotIsInstance(node, ast.Import, name)
                 if isinstance(node, ast.ImportFrom):
                     package, _, file = node.module.partition(".")
+                    if package in LIBRARY:
+                        self.look_at_library(name, tree, node)
+                        continue
                     self.assertEqual((package, node.level), ("fewestpours", 0))
                     needs[name[:-3]].append(file)
                     defined = top_names(file)
@@ -142,6 +154,55 @@ class FormTest(unittest.TestCase):
             self.assertTrue(free, sorted(needs))
             for name in free:
                 del needs[name]
+
+    def look_at_library(self, name, tree, told):
+        """What is imported from the library is called by its bare name, in functions."""
+        names = [part.name for part in told.names]
+        self.assertLessEqual(set(names), set(LIBRARY[told.module].split()), name)
+        self.assertFalse([part for part in told.names if part.asname], name)
+        for node in ast.walk(tree):
+            if isinstance(node, ast.Name) and node.id in names:
+                self.assertTrue(isinstance(node.parent, ast.Call) and node.parent.func is node, (name, node.lineno))
+                self.assertFalse(node.parent.keywords, (name, node.lineno))
+
+    def test_loops_leave_what_they_go_over(self):
+        for name, tree in trees():
+            for node in ast.walk(tree):
+                if isinstance(node, ast.For):
+                    over = set(gone_over(node.iter))
+                    for part in itertools.chain.from_iterable(map(ast.walk, node.body)):
+                        self.assertFalse(over & set(changed_by(part)), (name, part))
+
+    def test_words(self):
+        for name in files():
+            for token in tokenize.generate_tokens(io.StringIO(source(name)).readline):
+                is_docstring = token.type == tokenize.STRING and token.string.startswith('"""')
+                if token.type != tokenize.COMMENT and not is_docstring:
+                    for word in re.findall(r"\w+", token.string):
+                        self.assertNotIn(word, BARRED, (name, token.start))
+
+    def test_methods_are_no_attributes(self):
+        methods, attributes, read = set(), set(), set()
+        for _, tree in trees():
+            for node in ast.walk(tree):
+                if isinstance(node, ast.ClassDef):
+                    methods |= {part.name for part in node.body if isinstance(part, ast.FunctionDef)} - {"__init__"}
+                if isinstance(node, ast.Attribute) and isinstance(node.ctx, ast.Store):
+                    attributes.add(node.attr)
+                elif isinstance(node, ast.Attribute) and not is_called(node):
+                    read.add(node.attr)
+        self.assertFalse(methods & attributes)
+        self.assertLessEqual(read, attributes)
+        self.assertFalse(methods & set(dir(())) | methods & set(dir("")) | methods & set(dir({})) | methods & set(dir(0)))
+
+    def test_nested_functions_have_names_of_their_own(self):
+        for name, tree in trees():
+            for node in ast.walk(tree):
+                if isinstance(node, ast.FunctionDef):
+                    for inner in ast.walk(node):
+                        if isinstance(inner, ast.FunctionDef) and inner is not node:
+                            shared = {word for word, _ in bound_names(inner)} & names_around(node, inner)
+                            self.assertFalse(shared, (name, inner.lineno))
 
     def test_module_level(self):
         for name, tree in trees():
@@ -158,6 +219,45 @@ def is_at_once(call):
     if isinstance(parent, (ast.For, ast.comprehension)):
         return parent.iter is call
     return isinstance(parent, ast.Call) and isinstance(parent.func, ast.Name) and parent.func.id in AT_ONCE
+
+
+def is_called(node):
+    """Whether this is what a call calls."""
+    return isinstance(node.parent, ast.Call) and node.parent.func is node
+
+
+def gone_over(node):
+    """The texts of what is iterated over, also by way of enumerate and the like."""
+    if not isinstance(node, ast.Call):
+        yield ast.unparse(node)
+    elif isinstance(node.func, ast.Name) and node.func.id in ("enumerate", "zip", "reversed"):
+        for part in node.args:
+            yield from gone_over(part)
+    elif isinstance(node.func, ast.Attribute) and node.func.attr in ("items", "keys", "values"):
+        yield ast.unparse(node.func.value)
+
+
+def changed_by(node):
+    """The texts of what a statement or a call changes: a list that gets another item, and so on."""
+    targets = []
+    if isinstance(node, (ast.Assign, ast.Delete)):
+        targets = node.targets
+    elif isinstance(node, ast.AugAssign):
+        yield ast.unparse(node.target)
+        targets = [node.target]
+    for target in targets:
+        if isinstance(target, ast.Subscript):
+            yield ast.unparse(target.value)
+    if isinstance(node, ast.Call) and isinstance(node.func, ast.Attribute) and node.func.attr in CHANGING:
+        yield ast.unparse(node.func.value)
+    if isinstance(node, ast.Call) and isinstance(node.func, ast.Name) and node.func.id.startswith("heap"):
+        yield ast.unparse(node.args[0])
+
+
+def names_around(outer, inner):
+    """The names that a function assigns outside of one nested in it."""
+    own = {id(node) for node in ast.walk(inner)}
+    return {word for word, node in bound_names(outer) if id(node) not in own and node is not outer} - {inner.name}
 
 
 def top_names(file):

@@ -31,6 +31,17 @@ belowpapers: paper_below(standing, wish, m), is_paper_below(standing, wish, m, v
 running: running(standing, wish, m, row), waste(standing, wish, m, row), is_surely_least(standing, wish, m, value)
 readbounds: read_measure(state, wish), reads_needed(standing, wish, m), is_reads_paper(standing, wish, m, value)
 turned: table_standing(b, rows, columns), turned_wish(b, rows, columns), turned_order(i, j)
+digitlayings: laid_by(m, k, order), foreign_digits(k, order)
+exchanges: exchange_row(m, k, order, inner, outer), renaming_row(standing, names, m)
+digitrows: named_digit_row(m, k, order), digit_row(m, k, order), least_turning(m, i, j, k)
+planes: even_planes(m, last, b, table)
+enough: most_pours(many, m)
+anywish: linked_lots(standing, wish), tightened(standing, m, row), row_for(standing, wish, m)
+patterns: pattern(standing, wish), met_pattern(standing, wish), next_patterns(b, m, told)
+leastpours: least_pours(standing, wish, m, most), least_row(standing, wish, m, most)
+leastpours: pours_between(standing, other, m, most)
+layers: is_layers(standing, wish, m, value), layers(standing, wish, m, most)
+asks: stretches(asks), is_kept_lot(asks, m, value), kept_by(asks, row), rooms_of(asks, m, kept)
 """
 WITH_AT = "InvalidStanding InvalidText InvalidRow InvalidPaper InvalidQuestion Refused".split()
 
@@ -48,7 +59,7 @@ class InterfaceTest(unittest.TestCase):
                 self.assertEqual(function.__module__, module.__name__, call)
                 self.assertEqual(", ".join(inspect.signature(function).parameters), arguments)
                 count += 1
-        self.assertEqual(count, 69)
+        self.assertEqual(count, 93)
 
     def test_measures(self):
         below = importlib.import_module("fewestpours.below")
