@@ -49,6 +49,19 @@ def is_sequence_of_numbers(value):
     return True
 
 
+def is_integer_table(value, lengths):
+    """Whether any value is a tuple of tuples of integers, with so many in each."""
+    if not is_tuple_of(value, len(lengths)):
+        return False
+    for row, many in zip(value, lengths):
+        if not is_tuple_of(row, many):
+            return False
+        for entry in row:
+            if not is_whole(entry):
+                return False
+    return True
+
+
 def all_entries(rows):
     """A list of what stands in the rows, one row behind another."""
     entries = []

@@ -201,6 +201,30 @@ def all_lots(things):
     return itertools.chain.from_iterable(itertools.combinations(things, many) for many in range(len(things) + 1))
 
 
+def drawn_search(rng, n, b, useless):
+    """Some right search of n keys; the greater the share told, the more of its keys and nodes are of no use."""
+    nodes, waiting = [], [(0, n)] if n else []
+    for low, high in waiting:
+        if low == high or rng.random() < useless:
+            keys = sorted(rng.sample(range(n), rng.randint(1, min(n, b))))
+        else:
+            keys = sorted(rng.sample(range(low, high), rng.randint(1, min(b, high - low))))
+        nexts = []
+        for begin, end in zip((0, *[key + 1 for key in keys]), (*keys, n)):
+            begin, end = max(begin, low), min(end, high)
+            # No gap comes here, one does, or some do.
+            if begin > end:
+                nexts.append("any" if rng.random() < useless else None)
+            elif begin < end or rng.random() < useless / 4:
+                nexts.append(len(waiting))
+                waiting.append((begin, end))
+            else:
+                nexts.append(None)
+        nodes.append((tuple(keys), nexts))
+    return tuple((keys, tuple(rng.choice((None, *range(at + 1, len(nodes)))) if later == "any" else later for later in nexts))
+                 for at, (keys, nexts) in enumerate(nodes))
+
+
 def rng_of(seed):
     """A source of random numbers that begins anew with each test."""
     return random.Random(seed)

@@ -1,4 +1,4 @@
-"""The examples of the document, chapters 3 to 9."""
+"""The examples of the document, chapters 3 to 12."""
 
 import doctest
 import importlib
@@ -14,6 +14,9 @@ CHAPTERS = {
     7: "below belowpapers running readbounds",
     8: "turned digitlayings exchanges digitrows planes enough anywish",
     9: "standings patterns leastpours layers",
+    10: "asks furthest askpapers dearpages",
+    11: "merging mergepapers mergecounts",
+    12: "searching searchtrees searchweights cuttings",
 }
 
 

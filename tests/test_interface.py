@@ -42,6 +42,21 @@ leastpours: least_pours(standing, wish, m, most), least_row(standing, wish, m, m
 leastpours: pours_between(standing, other, m, most)
 layers: is_layers(standing, wish, m, value), layers(standing, wish, m, most)
 asks: stretches(asks), is_kept_lot(asks, m, value), kept_by(asks, row), rooms_of(asks, m, kept)
+furthest: furthest(asks, m), fewest_misses(asks, m), hits_by_rooms(asks, most)
+askpapers: ask_bound(asks, m, times), ask_paper(asks, m), is_ask_paper(asks, m, value)
+dearpages: kept_worth(asks, costs, kept), price_bound(asks, costs, m, prices), price_paper(asks, costs, m)
+dearpages: is_price_paper(asks, costs, m, value)
+merging: is_plan(runs, fan, value), plan_cost(runs, plan), depths(runs, plan), least_plan(runs, fan)
+merging: least_cost(runs, fan)
+mergepapers: is_told_plan(runs, fan, value)
+mergecounts: orders_of_runs(runs, b), answers_of_read(m, b), reads_below(runs, b, m)
+searching: is_search(n, b, value), gap_visits(search, gap), key_visits(search, key), is_right(n, search)
+searchtrees: is_search_tree(n, b, value), trimmed(n, search), least_height(n, b), least_visits(n, b)
+searchtrees: level_tree(n, b), slow_gap(n, search)
+searchweights: search_weight(search, keys, gaps), search_table(b, keys, gaps), lightest_tree(b, keys, gaps)
+searchweights: search_bound(b, keys, gaps, value)
+cuttings: cut_visits(parents, cut, node), cut_weight(parents, weights, cut), cut_table(b, parents, weights)
+cuttings: lightest_cut(b, parents, weights), cut_bound(b, parents, weights, value), shallow_cut(b, parents)
 """
 WITH_AT = "InvalidStanding InvalidText InvalidRow InvalidPaper InvalidQuestion Refused".split()
 
@@ -59,7 +74,7 @@ class InterfaceTest(unittest.TestCase):
                 self.assertEqual(function.__module__, module.__name__, call)
                 self.assertEqual(", ".join(inspect.signature(function).parameters), arguments)
                 count += 1
-        self.assertEqual(count, 93)
+        self.assertEqual(count, 132)
 
     def test_measures(self):
         below = importlib.import_module("fewestpours.below")
