@@ -63,6 +63,14 @@ def kept_by(asks, row):
     return tuple(sorted(kept))
 
 
+def free_room(held_until, time):
+    """The first room that is not held over this time; there is one, unless a stretch of a kept lot ends there."""
+    room = 0
+    while held_until[room] > time:
+        room += 1
+    return room
+
+
 def rooms_of(asks, m, kept):
     """Some room row with rooms below m that keeps these stretches."""
     begin_of = {j: i for i, j in kept}
@@ -74,7 +82,7 @@ def rooms_of(asks, m, kept):
         if time in begin_of:
             room = row[begin_of[time]]
         else:
-            room = [until <= time for until in held_until].index(True)
+            room = free_room(held_until, time)
         held_until[room] = end_of.get(time, time)
         row.append(room)
     return tuple(row)

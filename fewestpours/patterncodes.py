@@ -98,6 +98,6 @@ class PatternCodes:
             self.shared[(pool, len(lot))] = sharings(pool, self.b, len(lot))
         steps = []
         for parts in self.shared[(pool, len(lot))]:
-            if True not in [part == holding for part, holding in zip(parts, ahead)]:
+            if not any([part == holding for part, holding in zip(parts, ahead)]):
                 steps.append(sum([self.put(at, self.number_of[part]) for at, part in zip(lot, parts)]) - held)
         return steps

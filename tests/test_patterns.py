@@ -298,6 +298,18 @@ class LayersTest(unittest.TestCase):
         self.assertIs(is_layers(standing, wish, 2, moved[:2]), True)
         self.assertIs(is_layers(standing, wish, 2, moved), are_layers(standing, wish, 2, moved))
 
+    def test_a_pattern_that_comes_too_late(self):
+        standing, wish = (1, ((0,), (1,), (2,), (3,))), (1, 2, 3, 0)
+        first, second, third = layers(standing, wish, 2, 100)
+        later = (first, second[1:], tuple(sorted(third + second[:1])))
+        self.assertFalse(are_layers(standing, wish, 2, later))
+        self.assertIs(is_layers(standing, wish, 2, later), False)
+        self.assertIs(is_layers(standing, wish, 2, (first, second[1:], third)), False)
+        self.assertIs(is_layers(standing, wish, 2, (first, second, third[1:])), False)
+        self.assertIs(is_layers(standing, wish, 2, (first, second)), True)
+        self.assertIs(is_layers(standing, wish, 2, (first, second, third[1:], third[:1])), False)
+        self.assertIs(is_layers(standing, wish, 2, (first, second, third, third[:1])), False)
+
     def test_greatest_ones_are_looked_at_soon(self):
         begin = time.time()
         standing = (8, (tuple(range(8)),) + ((),) * 7)

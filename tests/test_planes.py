@@ -95,8 +95,10 @@ class PlanesTest(unittest.TestCase):
             self.check(m, last, b, table)
             more = [list(row) for row in table]
             more[rng.randrange(size)][rng.randrange(size)] += rng.randint(1, 2)
-            self.check(m, last, b, tuple(map(tuple, more)))
-            self.check(m, last, b, tuple(tuple(rng.randint(0, b) for _ in range(size)) for _ in range(size)))
+            other = tuple(tuple(rng.randint(0, b) for _ in range(size)) for _ in range(size))
+            for each in range(1, m + 1):
+                for one in (table, tuple(map(tuple, more)), other):
+                    self.check(m, each, b, one)
 
     def test_one_too_many(self):
         for m, last, b in ((2, 1, 1), (3, 2, 2), (4, 4, 3), (16, 1, 64)):
