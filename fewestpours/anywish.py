@@ -3,7 +3,7 @@
 from fewestpours.basics import all_entries
 from fewestpours.enough import grouping
 from fewestpours.planes import even_planes
-from fewestpours.pours import lay
+from fewestpours.pours import blocks_together, lay
 
 
 def linked_lots(standing, wish):
@@ -40,11 +40,6 @@ def put_behind(step, later):
         ahead = step[at][0] if at in step else later[at][0]
         both[at] = (ahead, later[at][1])
     return {at: both[at] for at in both if both[at][0] != both[at][1]}
-
-
-def blocks_together(step, later):
-    """How many blocks two steps have, each counted once."""
-    return len(step) + len([at for at in later if at not in step])
 
 
 def tightened(standing, m, row):

@@ -15,14 +15,14 @@ def is_tree(m, value):
 
 
 def end_depths(tree):
-    """A list of the depths of the tree's ends, in whatever order."""
+    """A list of the depths of the tree's ends, from left to right."""
     depths = []
     waiting = [(tree, 0)]
     while waiting:
         part, depth = waiting.pop()
         if not part:
             depths.append(depth)
-        for entry in part:
+        for entry in part[::-1]:
             waiting.append((entry, depth + 1))
     return depths
 

@@ -27,6 +27,11 @@ def lay(blocks, pour):
         blocks[at] = part
 
 
+def blocks_together(who, others):
+    """How many blocks these and the others are together, each counted once."""
+    return len(who) + len([at for at in others if at not in who])
+
+
 def is_pour(standing, m, value):
     """Whether any value is a pour of at most m blocks of this standing."""
     b, blocks = standing

@@ -3,6 +3,7 @@
 from fewestpours.basics import LEAST_ROOMS, MOST_BLOCKS, MOST_RECORDS, MOST_ROOMS, MOST_SIZE, all_entries
 from fewestpours.pours import lay
 from fewestpours.sharing import Sharing
+from fewestpours.tokens import number_told
 
 # No number in an errand has more digits; so longer tokens need not be looked at as numbers.
 MOST_DIGITS = 4
@@ -37,15 +38,6 @@ class Reader:
         self.row = []
         self.who = []
         self.parts = Sharing([], 1, 1, True)
-
-
-def number_told(token):
-    """The number that stands in a text as this token, None if there is none (or it is too great for an errand)."""
-    if len(token) > MOST_DIGITS or not token.isascii() or not token.isdigit():
-        return None
-    if token[0] == "0" and len(token) > 1:
-        return None
-    return int(token)
 
 
 def words_at_blocks(reader):
@@ -323,7 +315,7 @@ def take(reader, token):
     if token in words_that_follow(reader):
         take_word(reader, token)
         return True
-    number = number_told(token)
+    number = number_told(token, MOST_DIGITS)
     if number is None or number not in numbers_that_follow(reader):
         return False
     act = NUMBER_TAKERS[reader.phase]

@@ -6,6 +6,15 @@ def is_word_sign(sign):
     return sign == "_" or (sign.isascii() and sign.isalnum())
 
 
+def number_told(token, most_digits):
+    """The number that stands in a text as this token, None if there is none, or one with more digits."""
+    if len(token) > most_digits or not token.isascii() or not token.isdigit():
+        return None
+    if token[0] == "0" and len(token) > 1:
+        return None
+    return int(token)
+
+
 def end_of_line(text, at):
     """The index of the next line feed from there on, or the length of the text."""
     end = text.find("\n", at)

@@ -228,3 +228,50 @@ def drawn_search(rng, n, b, useless):
 def rng_of(seed):
     """A source of random numbers that begins anew with each test."""
     return random.Random(seed)
+
+
+def plain_way(h, end):
+    """The nodes above an end, found from the bottom."""
+    nodes, at = [], end + 2 ** h - 1
+    while at > 0:
+        at = (at - 1) // 2
+        nodes.append(at)
+    return tuple(nodes[::-1])
+
+
+def plain_visits(h, laying, b, shift):
+    """The visits to each end, by a list of the blocks."""
+    places = [None] * shift + list(laying)
+    blocks = [places[at:at + b] for at in range(0, len(places), b)]
+    lies_in = {node: number for number, block in enumerate(blocks) for node in block}
+    return tuple(len({lies_in[node] for node in plain_way(h, end)}) for end in range(2 ** h))
+
+
+def plain_ends(tree, depth=0):
+    """The depths of the ends of a tree, from left to right."""
+    return [depth] if tree == () else [found for entry in tree for found in plain_ends(entry, depth + 1)]
+
+
+def all_points(sides):
+    """All points of these sides."""
+    return list(itertools.product(*map(range, sides)))
+
+
+def play_walk(sides, room, walk):
+    """How many steps "in" a walk has, played step by step; None if it is no walk."""
+    tables = dict(enumerate(((sides[0], sides[2]), (sides[2], sides[1]), (sides[0], sides[1]))))
+    there, left, moves = set(), set(all_points(sides)), 0
+    for word, told in walk:
+        if word == "do":
+            i, j, k = told
+            if told not in left or not {(0, i, k), (1, k, j), (2, i, j)} <= there:
+                return None
+            left.remove(told)
+        elif told[1] >= tables[told[0]][0] or told[2] >= tables[told[0]][1] or (told in there) == (word == "in"):
+            return None
+        else:
+            there ^= {told}
+            moves += word == "in"
+            if len(there) > room:
+                return None
+    return None if left else moves

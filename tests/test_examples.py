@@ -1,4 +1,4 @@
-"""The examples of the document, chapters 3 to 12."""
+"""The examples of the document, chapters 3 to 18."""
 
 import doctest
 import importlib
@@ -17,6 +17,12 @@ CHAPTERS = {
     10: "asks furthest askpapers dearpages",
     11: "merging mergepapers mergecounts",
     12: "searching searchtrees searchweights cuttings",
+    13: "layingvisits partingtrees halves manysizes",
+    14: "sorting networks blocknetworks",
+    15: "shadows loopbounds walks smallloops",
+    16: "living livingchanges lives",
+    17: "counting spread rounds",
+    18: "houses sheets desk",
 }
 
 

@@ -14,7 +14,7 @@ PACKAGE = os.path.join(ROOT, "fewestpours")
 
 NODES = """Module Expr Constant Import ImportFrom alias FunctionDef ClassDef arguments arg Assign AugAssign If While For
 Return Break Continue Pass Raise Assert Delete Try ExceptHandler Name Load Store Del Attribute Subscript Slice Tuple List
-Dict Starred Call keyword BinOp UnaryOp BoolOp Compare IfExp ListComp DictComp comprehension JoinedStr FormattedValue
+Dict Starred Call keyword BinOp UnaryOp BoolOp Compare IfExp ListComp DictComp SetComp comprehension JoinedStr FormattedValue
 Lambda Add Sub Mult FloorDiv Mod Pow LShift RShift BitAnd BitOr BitXor Invert Not USub UAdd And Or Eq NotEq Lt LtE Gt GtE
 Is IsNot In NotIn""".split()
 BUILTINS = """len range enumerate zip min max sum abs sorted reversed int str bool list tuple dict isinstance ord repr any
@@ -113,7 +113,7 @@ class FormTest(unittest.TestCase):
                 where = (name, node.lineno, word)
                 self.assertNotIn(word, UNUSED, where)
                 self.assertNotIn(word, imported, where)
-                self.assertFalse(word.startswith("__") and word != "__init__", where)
+                self.assertFalse(word.startswith("__") and word not in ("__init__", "__len__"), where)
                 self.assertNotIn(word, dir(builtins) if word != "__init__" else (), where)
                 self.assertFalse(word in classes and not isinstance(node, ast.ClassDef), where)
             for node in ast.walk(tree):
@@ -186,7 +186,7 @@ class FormTest(unittest.TestCase):
         for _, tree in trees():
             for node in ast.walk(tree):
                 if isinstance(node, ast.ClassDef):
-                    methods |= {part.name for part in node.body if isinstance(part, ast.FunctionDef)} - {"__init__"}
+                    methods |= {part.name for part in node.body if isinstance(part, ast.FunctionDef)} - {"__init__", "__len__"}
                 if isinstance(node, ast.Attribute) and isinstance(node.ctx, ast.Store):
                     attributes.add(node.attr)
                 elif isinstance(node, ast.Attribute) and not is_called(node):
@@ -194,6 +194,23 @@ class FormTest(unittest.TestCase):
         self.assertFalse(methods & attributes)
         self.assertLessEqual(read, attributes)
         self.assertFalse(methods & set(dir(())) | methods & set(dir("")) | methods & set(dir({})) | methods & set(dir(0)))
+
+    def test_sets_and_lengths_and_ends(self):
+        for name, tree in trees():
+            for node in ast.walk(tree):
+                where = (name, getattr(node, "lineno", 0))
+                if isinstance(node, ast.SetComp):
+                    self.assertIsInstance(node.parent, ast.Call, where)
+                    self.assertIn(ast.unparse(node.parent.func), ("len", "sorted"), where)
+                if isinstance(node, ast.FunctionDef) and node.name == "__len__":
+                    self.assertIsInstance(node.parent, ast.ClassDef, where)
+                    self.assertRegex(ast.unparse(node.body[-1]), r"^return len\(self\.[a-z]+\)$", where)
+                    self.assertEqual(len(node.body), 2, where)
+                if isinstance(node, ast.Try):
+                    for part in node.finalbody:
+                        self.assertRegex(ast.unparse(part), r"^self\.[a-z]+ = [a-z]+$", where)
+                    for handler in node.handlers:
+                        self.assertEqual(ast.unparse(handler.type), "InvalidRow", where)
 
     def test_nested_functions_have_names_of_their_own(self):
         for name, tree in trees():

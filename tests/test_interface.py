@@ -57,7 +57,29 @@ searchweights: search_weight(search, keys, gaps), search_table(b, keys, gaps), l
 searchweights: search_bound(b, keys, gaps, value)
 cuttings: cut_visits(parents, cut, node), cut_weight(parents, weights, cut), cut_table(b, parents, weights)
 cuttings: lightest_cut(b, parents, weights), cut_bound(b, parents, weights, value), shallow_cut(b, parents)
+layingvisits: way(h, end), is_laying(h, value), visits(h, laying, b, shift), visit_sum(h, laying, b)
+partingtrees: least_worst(h, b), parting_tree(h, laying, b, shift), is_parting_tree(h, laying, b, shift, value)
+halves: halves_laying(h), halves_runs(h, b), run_paper(h, laying, b, value)
+manysizes: level_laying(h), tuned_laying(h, a), best_sizes(h, laying)
+sorting: sort_reads_below(n, b, m), first_runs(n, m), sort_reads(n, m), sorted_run(words, b, m)
+networks: run_network(network, words), unsorted_row(n, network), is_sorting(n, value)
+blocknetworks: run_blocks(network, blocks), merging_network(n), least_network(n)
+shadows: needs(point), shadows(points), most_by_shadows(total)
+loopbounds: bound_by(sides, room, t), moves_at_least(sides, room)
+walks: is_walk(sides, room, value), walk_moves(walk), tile_room(tile), tile_moves(sides, tile), tile_walk(sides, tile)
+walks: best_tile(sides, room)
+smallloops: fewest_in(sides, room), best_walk(sides, room)
+living: is_life(value), begun(standing, wish, m, row), gap(life)
+livingchanges: is_change(life, value), changed(life, change)
+lives: joined(life), lived(life, changes), diary(life, changes)
+counting: share_count(b, many, records), pour_most(b, many, records, m), within_most(b, many, records, m, t)
+counting: far_at_least(b, many, records, m), rare_within(b, many, records, m, parts)
+spread: spread(standing, m, most), farthest(standing, m, most)
+rounds: rounds_of(row), settled(row), are_exchanges(one, other), put_together(row, m)
+sheets: sheet_holds(value), sheet(name, question), wrong_sheets(values), sure(below, row)
 """
+HOUSE = """__len__(), life(), errand(), bounds(), reads(), program(), do(change), shorten(), pour_on(many), undo(), within(work)"""
+DESK = "load(text), say(command)"
 WITH_AT = "InvalidStanding InvalidText InvalidRow InvalidPaper InvalidQuestion Refused".split()
 
 
@@ -74,7 +96,20 @@ class InterfaceTest(unittest.TestCase):
                 self.assertEqual(function.__module__, module.__name__, call)
                 self.assertEqual(", ".join(inspect.signature(function).parameters), arguments)
                 count += 1
-        self.assertEqual(count, 132)
+        self.assertEqual(count, 191)
+
+    def test_classes(self):
+        for file, word, arguments, methods in (("houses", "House", ["text"], HOUSE), ("desk", "Desk", [], DESK)):
+            kind = vars(importlib.import_module("fewestpours." + file))[word]
+            self.assertTrue(inspect.isclass(kind))
+            self.assertEqual((kind.__module__, kind.__bases__), ("fewestpours." + file, (object,)))
+            self.assertEqual(list(inspect.signature(kind).parameters), arguments)
+            for call in methods.split(", "):
+                name, told = call[:-1].split("(")
+                # In the class itself, not only in a base class.
+                self.assertTrue(inspect.isfunction(vars(kind)[name]), call)
+                self.assertEqual(", ".join(list(inspect.signature(vars(kind)[name]).parameters)[1:]), told)
+        self.assertEqual(vars(importlib.import_module("fewestpours.desk").Desk()), {"house": None})
 
     def test_measures(self):
         below = importlib.import_module("fewestpours.below")
