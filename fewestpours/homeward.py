@@ -1,7 +1,5 @@
 """A plain row that meets a wish."""
 
-from fewestpours.basics import all_entries
-
 
 def home_parts(who, blocks, wish, b):
     """Parts for these blocks by which each record that wishes one of them lies there."""

@@ -1,6 +1,6 @@
 """Changes of a life, and what its plan becomes by them."""
 
-from fewestpours.basics import MOST_RECORDS, is_number, is_tuple_of
+from fewestpours.basics import MOST_RECORDS, is_number
 from fewestpours.errors import InvalidQuestion
 from fewestpours.pours import is_pour, poured
 

@@ -9,8 +9,6 @@ from fewestpours.standings import record_count, wish_of
 
 def widest_lots(many, m):
     """A list of the lots of as many blocks as one pour can have; it may leave any of them as it is."""
-    if many == 1:
-        return [(0,)]
     return [lot for lot in lots_below(many, m) if len(lot) == min(many, m)]
 
 

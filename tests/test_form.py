@@ -165,6 +165,14 @@ class FormTest(unittest.TestCase):
                 self.assertTrue(isinstance(node.parent, ast.Call) and node.parent.func is node, (name, node.lineno))
                 self.assertFalse(node.parent.keywords, (name, node.lineno))
 
+    def test_imports_are_used(self):
+        for name, tree in trees():
+            used = {node.id for node in ast.walk(tree) if isinstance(node, ast.Name)}
+            for node in tree.body:
+                if isinstance(node, ast.ImportFrom):
+                    for part in node.names:
+                        self.assertIn(part.name, used, name)
+
     def test_loops_leave_what_they_go_over(self):
         for name, tree in trees():
             for node in ast.walk(tree):

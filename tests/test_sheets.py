@@ -15,6 +15,7 @@ from fewestpours.merging import least_plan
 from fewestpours.networks import is_sorting
 from fewestpours.pours import meets
 from fewestpours.sheets import sheet, sheet_holds, sure, wrong_sheets
+from fewestpours.turned import table_standing, turned_wish
 from helpers import WRONG_VALUES, all_in_tuples, broken, distances, drawn_row, drawn_standing, drawn_wish, nested, plain_wish, rng_of
 
 STANDING, WISH = (2, ((0, 1), (2, 3))), (0, 1, 0, 1)
@@ -161,6 +162,11 @@ class SureTest(unittest.TestCase):
         self.assertIs(sure(below, ("row", row[1][:2] + (3,), row[2])), False)
         self.assertIs(sure(("below", below[1][:2] + (3,), below[2]), row), False)
         self.assertIs(sure(("below", below[1], ("depths", 2)), ("row", row[1], row[2] * 2)), False)
+        # A paper has two entries; so it may look as if it were a row of two pours.
+        longer = (table_standing(2, 2, 4), turned_wish(2, 2, 4), 2)
+        paper = sheet("below", longer)
+        self.assertEqual(paper[2][1], 2)
+        self.assertIs(sure(paper, paper), False)
         for value in itertools.chain(WRONG_VALUES, broken(row), (below, nested(40))):
             self.assertIs(sure(below, value), False)
         for value in itertools.chain(WRONG_VALUES, broken(below), (row, nested(40))):
